@@ -1,0 +1,1 @@
+"""Hewstream: documents turned into output while they come."""
