@@ -231,7 +231,8 @@ def read_value(tokens, sign):
 
 
 def read_slash(tokens, sign):
-    expect(tokens, sign, ">", "content")
+    if sign != ">":
+        raise BadByte(tokens.place)
     tell_start(tokens)
     tell_end(tokens)
 
@@ -249,22 +250,15 @@ def tell_end(tokens):
 
 
 def read_end_name(tokens, sign):
+    """Behind the </ of an end tag, up to its end."""
     name = tokens.names[-1]
-    if tokens.matched == len(name):
-        read_end_gap(tokens, sign)
-    elif sign == name[tokens.matched]:
+    if tokens.matched < len(name):
+        if sign != name[tokens.matched]:
+            raise BadByte(tokens.place)
         tokens.matched += 1
-    else:
-        raise BadByte(tokens.place)
-
-
-def read_end_gap(tokens, sign):
-    """Behind the whole name of an end tag."""
-    if sign == ">":
+    elif sign == ">":
         tell_end(tokens)
-    elif sign in BLANKS:
-        tokens.reading = "end gap"
-    else:
+    elif sign not in BLANKS:
         raise BadByte(tokens.place)
 
 
@@ -307,6 +301,5 @@ READERS = {
     "value": read_value,
     "slash": read_slash,
     "end name": read_end_name,
-    "end gap": read_end_gap,
     "entity": read_entity,
 }

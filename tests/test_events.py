@@ -6,12 +6,14 @@ import unittest
 from hewstream.errors import NotValid
 from hewstream.events import document_events, events_of, is_document, is_sign, is_tree, print_output, tree_of
 from hewstream.tokens import read_text
+from samples import Same
 
-ODD = [None, True, False, 0, 1, -1, 1.5, "", "ab", "\r", "%", "\x7f", "\u00e9", b"a", b"", [], ["a"], (), ("a",), {},
-       {"a": 1}, {1}, object(), len, int]
-NO_NAMES = ["", "A", "1", "abcdefghi", "a b", None, 1, True, ["a"], ("a",), b"a"]
-NO_STRINGS = [None, 1, True, ["a"], ("a",), b"a", "\r", "%", "a%", "\u00e9", "\x00", "a\x7f"]
-NO_SIGNS = ["", "ab", "%", "\r", "\x7f", "\u00e9", None, 1, True, ["a"], ("a",), b"a", 97]
+ODD = [Same(), (Same(),), (Same(), "b"), (Same(), "b", ()), None, True, False, 0, 1, -1, 1.5, "", "ab", "\r", "%",
+       "\x7f", "\u00e9", b"a", b"", [], ["a"], (), ("a",), {}, {"a": 1}, {1}, object(),
+       len, int]
+NO_NAMES = [Same(), "", "A", "1", "abcdefghi", "a b", None, 1, True, ["a"], ("a",), b"a"]
+NO_STRINGS = [Same(), None, 1, True, ["a"], ("a",), b"a", "\r", "%", "a%", "\u00e9", "\x00", "a\x7f"]
+NO_SIGNS = [Same(), "", "ab", "%", "\r", "\x7f", "\u00e9", None, 1, True, ["a"], ("a",), b"a", 97]
 EIGHT = tuple((name, "") for name in "abcdefgh")
 NINE = tuple((name, "") for name in "abcdefghi")
 # What cannot be the attributes of a start event.
@@ -125,6 +127,13 @@ class FormsTest(unittest.TestCase):
         self.assertFalse(is_document([start, ("start", "b", ()), end, ("end", "b")]))
         self.assertFalse(is_document([start, end, end]))
         self.assertFalse(is_document([("char", "b")]))
+
+    def test_names(self):
+        for name in NO_NAMES:
+            self.assertFalse(is_document([("start", name, ()), ("end", name)]), repr(name))
+            self.assertFalse(is_document([("start", "a", ()), ("start", name, ()), ("end", name), ("end", "a")]))
+        for name in ("a", "abcdefgh", "z9"):
+            self.assertTrue(is_document([("start", name, ()), ("end", name)]))
 
     def test_attributes(self):
         for attributes in NO_ATTRIBUTES:

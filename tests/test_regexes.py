@@ -5,10 +5,7 @@ import unittest
 
 from hewstream.errors import BadText
 from hewstream.regexes import is_content, is_type_name, names_in, print_content, read_content
-
-ODD = [None, True, False, 0, 1, 1.5, "", "a", "empty", b"a", [], ["empty"], (), {}, {"empty": 1}, {1}, object(), len]
-A, B, C, D = [("type", name) for name in "abcd"]
-EMPTY, CHARS = ("empty",), ("chars",)
+from samples import A, B, C, CHARS, D, EMPTY, ODD_CONTENTS, random_content, spoiled_contents
 
 # Contents with their printed forms.
 PRINTED = [
@@ -62,25 +59,13 @@ FAULTS = [
     ("", 1), ("   ", 4), ("a,", 3), ("a, ", 4), ("a |", 4), ("(a", 3), ("(", 2), ("((a)", 5), ("a, (b ", 7),
     ("a,(b|", 6), ("*", 1), ("+a", 1), ("?", 1), (",a", 1), ("|a", 1), (")", 1), ("a)", 2), ("(a))", 4), ("()", 2),
     ("a,,b", 3), ("a,|b", 3), ("a||b", 3), ("a, *", 4), ("(*a)", 2), ("(a,)", 4), ("(|a)", 2), ("a b", 3),
-    ("a  (b)", 4), ("a(b)", 2), ("(a)b", 4), ("a* b", 4), ("a*b", 3), ("a empty", 3), ("a,b c", 5),
+    ("a  (b)", 4), ("a(b)", 2), ("(a)b", 4), ("(a b)", 4), ("(a (b))", 4), ("((a,b) c)", 8), ("(a#)", 3),
+    ("(ab", 4), ("a* b", 4), ("a*b", 3), ("a empty", 3), ("a,b c", 5),
     ("char", 1), ("a, char", 4), ("(char)", 2), ("1a", 1), ("a|1", 3), ("abcdefghi", 1), ("a,abcdefghi*", 3),
     ("a,(b| 0)", 7), ("emptychars", 1), ("a char", 3), ("a 1", 3), ("a abcdefghi", 3),
     ("A", 1), ("aB", 2), ("a_b", 2), ("a,#", 3), ("a#", 2), ("a;b", 2), ("a\tb", 2), ("a,\tb", 3), ("\na", 1),
     ("a\n", 2), ("a,\u00e9", 3), ("a\u00e9", 2), ("a\u0663", 2), ("a.b", 2), ("[a]", 1), ("a-b", 2), ("a&b", 2),
 ]
-
-
-def spoiled_contents():
-    rows = [(), (None,), ("a",), ("char",), ("type",), ("seq",), ("star",), (("empty",),), ("empty", ()), ("empty", A),
-            ("chars", "a"), ("chars", ()), ("type", "a", "b"), ("type", ("a",)), ("star", A, B), ("plus",),
-            ("maybe", A, A), ("seq", A, B), ("or", A, B), ("seq", ()), ("seq", (A,)), ("or", (A,)), ("or", ()),
-            ("seq", [A, B]), ("or", [A, B]), ("seq", "ab"), ("or", {"a": 1, "b": 2}), ("seq", None), ("or", 2),
-            ("Star", A), ("opt", A), ("", A), (1, A), (True, A), (["star"], A), (None, A), ("star", ()),
-            ["empty"], ["type", "a"], ["seq", (A, B)], ["star", A], ("star", ["type", "a"]), ("empty", "empty"),
-            ("char", "a"), ("maybe", (A, B)), ("name", "a"), ("type", None), ("seq", (A, B), C)]
-    rows += [("type", name) for name in ("", "A", "1", "abcdefghi", "a b", "empty", "chars", "char", 1, True, ["a"],
-                                         ("a",), b"a", "a%", "\u00e9")]
-    return rows + ODD
 
 
 def fault_of(text):
@@ -89,18 +74,6 @@ def fault_of(text):
     except BadText as fault:
         return fault.line, fault.place
     return None
-
-
-def random_content(chance, depth):
-    kind = chance.randrange(9 if depth else 4)
-    if kind < 2:
-        return ("type", chance.choice(["a", "b", "c2", "type", "root"]))
-    if kind < 4:
-        return (EMPTY, CHARS)[kind - 2]
-    if kind < 6:
-        many = chance.randrange(2, 4)
-        return ("seq", "or")[kind - 4], tuple(random_content(chance, depth - 1) for _ in range(many))
-    return ("star", "plus", "maybe")[kind - 6], random_content(chance, depth - 1)
 
 
 def spaced(chance, text):
@@ -119,7 +92,7 @@ class FormsTest(unittest.TestCase):
         for name in ("a", "root", "char2", "chars1", "emptya", "abcdefgh", "type", "a0"):
             self.assertIs(is_type_name(name), True, name)
         for name in ("empty", "chars", "char", "", "A", "1", "abcdefghi", "a b", "a%", "\u00e9", *[
-                value for value in ODD if value != "a"]):
+                value for value in ODD_CONTENTS if value != "a"]):
             self.assertIs(is_type_name(name), False, repr(name))
 
     def test_contents(self):

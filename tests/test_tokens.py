@@ -8,6 +8,26 @@ from hewstream.tokens import MOST_DEPTH, MOST_NAME, Tokens, is_name, read_text
 from text_oracle import fault_place, text_events
 
 NAMES = ["a", "z", "a1", "abcdefgh", "a1234567", "z09"]
+LETTERS = "abcdefghijklmnopqrstuvwxyz"
+DIGITS = "0123456789"
+BLANKS = " \t\n"
+SIGNS = "".join(chr(code) for code in [9, 10, *range(32, 37), *range(38, 127)])
+
+# Beginnings of texts, with all signs that can come next.
+NEXT = [
+    ("", BLANKS + "<"), ("<", LETTERS + "!"), ("<!", "-"), ("<!-", "-"), ("<!--", SIGNS), ("<!---", SIGNS),
+    ("<!----", ">"), ("<!---->", BLANKS + "<"), ("<a", LETTERS + DIGITS + BLANKS + "/>"), ("<abcdefgh", BLANKS + "/>"),
+    ("<a ", LETTERS + BLANKS + "/>"), ("<a x", LETTERS + DIGITS + "="), ("<a x1234567", "="), ("<a x=", '"'),
+    ('<a x="', SIGNS.replace("<", "")), ('<a x="y', SIGNS.replace("<", "")), ('<a x="&', "lgaq"),
+    ('<a x="&l', "t"), ('<a x="&lt', ";"), ('<a x="&lt;', SIGNS.replace("<", "")), ('<a x=""', BLANKS + "/>"),
+    ('<a x="" ', LETTERS + BLANKS + "/>"), ('<a x="" x', LETTERS + DIGITS), ("<a/", ">"), ("<a>", SIGNS),
+    ("<a><", LETTERS + "!/"), ("<a><!", "-"), ("<a><!-", "-"), ("<a><!-- ", SIGNS), ("<a><!-- --", ">"),
+    ("<a>&", "lgaq"), ("<a>&g", "t"), ("<a>&gt", ";"), ("<a>&a", "m"), ("<a>&am", "p"), ("<a>&amp", ";"),
+    ("<a>&q", "u"), ("<a>&qu", "o"), ("<a>&quo", "t"), ("<a>&quot", ";"), ("<a>&quot;", SIGNS), ("<a></", "a"),
+    ("<ab></a", "b"), ("<a></a", BLANKS + ">"), ("<a></a\n", BLANKS + ">"), ("<a/>", BLANKS + "<"), ("<a/><", "!"),
+    ("<a></a> <!---->\t", BLANKS + "<"), ("<a><b/></", "a"), ("<a><b></b>", SIGNS), ("<a><a1></", "a"),
+    ("<a><a1></a", "1"), ("<a><a1></a1", BLANKS + ">"),
+]
 NO_NAMES = ["", "A", "1a", "abcdefghi", "a_b", "a b", "a-b", "\u00e9", "a\u00e9", "aB", "a\n", " a", "a\u0663", None, 1,
             True, b"a", ["a"], ("a",), {"a": 1}]
 
@@ -157,6 +177,9 @@ class NameTest(unittest.TestCase):
             self.assertIs(is_name(name), True, name)
         for name in NO_NAMES:
             self.assertIs(is_name(name), False, name)
+        for code in range(300):
+            self.assertIs(is_name(chr(code)), chr(code) in LETTERS, code)
+            self.assertIs(is_name("a" + chr(code)), chr(code) in LETTERS + DIGITS, code)
 
 
 class EventsTest(unittest.TestCase):
@@ -252,6 +275,17 @@ class FaultsTest(unittest.TestCase):
         for text, place in FAULTS:
             self.assertEqual(place_of_fault(text), place, text)
             self.assertEqual(fault_place(text), place, text)
+
+    def test_every_byte(self):
+        for text, signs in NEXT:
+            for byte in range(-2, 260):
+                try:
+                    Tokens().feed(data_of(text) + [byte])
+                    told = -1
+                except BadByte as fault:
+                    told = fault.place
+                right = 0 <= byte < 128 and chr(byte) in signs
+                self.assertEqual(told, -1 if right else len(text), (text, byte))
 
     def test_places_in_pieces(self):
         for text, place in FAULTS:
