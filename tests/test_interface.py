@@ -1,0 +1,78 @@
+"""The interface: names, arguments, constants, and where each function, class and method is defined."""
+
+import importlib
+import inspect
+import unittest
+
+# The functions and methods with their arguments. The language has no argument that is called as the document's
+# type: it is called kind.
+FUNCTIONS = {
+    "tokens": ["is_name value", "read_text data"],
+    "events": ["is_sign value", "is_tree value", "is_document value", "tree_of document", "events_of tree",
+               "document_events output", "print_output output"],
+    "regexes": ["is_type_name value", "is_content value", "names_in content", "read_content text",
+                "print_content content"],
+    "automata": ["automaton_of content", "next_state automaton state symbol", "is_final automaton state",
+                 "reads automaton row", "symbols_at automaton state", "states_of automaton", "parts automaton",
+                 "inner_edges automaton"],
+    "schemas": ["is_schema value", "read_schema text", "print_schema schema"],
+    "validator": ["validate grammar events"],
+    "completions": ["weights grammar", "start_event grammar kind", "least_element grammar kind",
+                    "completion grammar validator", "least_to grammar kind state targets", "events_of grammar row"],
+    "programs": ["is_program value", "fits program grammar", "body_of program mode kind", "settled body attributes",
+                 "values_named body"],
+}
+CLASSES = {
+    "errors": {"StreamError": [], "NotValid": [], "TooMany": [], "BadByte": ["__init__ place"],
+               "TooDeep": ["__init__ place"], "NotDocument": ["__init__ number"], "BadText": ["__init__ line place"]},
+    "tokens": {"Tokens": ["__init__", "feed data", "close"]},
+    "schemas": {"Grammar": ["__init__ schema", "types", "name_of kind", "attributes_of kind",
+                            "child_type kind element", "automaton kind", "step kind state symbol",
+                            "is_final kind state", "schema"]},
+    "validator": {"Validator": ["__init__ grammar", "take event", "expected", "open_types", "states", "is_complete",
+                                "fault", "copied"]},
+}
+CONSTANTS = {
+    "tokens": {"MOST_DEPTH": 60, "MOST_NAME": 8},
+    "automata": {"MOST_STATES": 30, "MOST_SETS": 400},
+    "completions": {"MOST_EVENTS": 1000},
+    "programs": {"MOST_MODES": 8, "MOST_NESTED": 6, "MOST_ITEMS": 60},
+}
+
+
+def module(name):
+    return importlib.import_module("hewstream." + name)
+
+
+class InterfaceTest(unittest.TestCase):
+    def check(self, function, row, first):
+        name, *arguments = row.split()
+        self.assertEqual(function.__name__, name)
+        self.assertEqual(list(inspect.signature(function).parameters), first + arguments, row)
+
+    def test_functions(self):
+        for name, rows in FUNCTIONS.items():
+            for row in rows:
+                function = getattr(module(name), row.split()[0])
+                self.assertEqual(function.__module__, "hewstream." + name)
+                self.check(function, row, [])
+
+    def test_classes(self):
+        for name, classes in CLASSES.items():
+            for kind, rows in classes.items():
+                found = getattr(module(name), kind)
+                self.assertTrue(inspect.isclass(found))
+                self.assertEqual(found.__module__, "hewstream." + name)
+                for row in rows:
+                    # In the class itself, not in a base class.
+                    self.check(vars(found)[row.split()[0]], row, ["self"])
+
+    def test_constants(self):
+        for name, constants in CONSTANTS.items():
+            for constant, number in constants.items():
+                self.assertEqual(getattr(module(name), constant), number)
+                self.assertIs(type(getattr(module(name), constant)), int)
+
+
+if __name__ == "__main__":
+    unittest.main()
