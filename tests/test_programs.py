@@ -24,9 +24,9 @@ ITEMS = [
     ("if", "x", None, (), ()), ("if", "x", "", (TEXT,), ()), ("if", "x", "a b", (), (TEXT, TEXT)),
 ]
 # Parts that are right neither as items nor in the attributes of a make.
-NO_PARTS = [(Same(), "a")]
-NO_PARTS += [("text",), ("text", "a", "b"), ["text", "a"], ("value",), ("value", "x", "y"), ["value", "x"],
-            ("text", None), ("Text", "a"), ("", "a"), (1, "a"), (None, "x"), (["text"], "a"), ("name", "x"), "text"]
+NO_PARTS = [("text",), ("text", "a", "b"), ["text", "a"], ("value",), ("value", "x", "y"), ["value", "x"],
+            ("text", None), ("Text", "a"), ("", "a"), (1, "a"), (None, "x"), (["text"], "a"), ("name", "x"), "text",
+            (Same(), "a")]
 NO_PARTS += [("text", value) for value in NO_STRINGS] + [("value", name) for name in NO_NAMES]
 # What cannot be the attributes of a make.
 NO_ATTRIBUTES = [None, "", [], {}, 1, True, NINE, (("y",),), (("y", ()),), (("y", [TEXT]),), (["y", (TEXT,)],),
