@@ -118,6 +118,11 @@ def fits(program, grammar):
     return True
 
 
+def is_fitting(value, grammar):
+    """True if the value is a program that fits; it may be anything."""
+    return is_program(value) and fits(value, grammar)
+
+
 def items_within(body):
     """The list of the items of a body, those of inner bodies included."""
     found = []
