@@ -63,9 +63,11 @@ def frame_end(output, parts, context, state, functions):
             child = child_context(output, context, part[1][1])
             if child is None or attribute_fault(output, child, part[1][2]) != "":
                 return FAULT
-            around.append((context, state_behind(output, context, state, child)))
-            # What stands inside is looked at only if the element can come.
-            context, state = child, 0 if around[-1][1] != FAULT else FAULT
+            behind = state_behind(output, context, state, child)
+            if behind == FAULT:
+                return FAULT
+            around.append((context, behind))
+            context, state = child, 0
         if state == FAULT:
             return FAULT
     return state

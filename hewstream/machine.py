@@ -6,6 +6,8 @@ from hewstream.programs import is_fitting
 from hewstream.validator import Validator
 
 MOST_FRAMES = 1000
+# Where the frame of the root stands: in no frame, in no part of one.
+ROOT = (-1, -1)
 
 
 class Machine:
@@ -61,10 +63,6 @@ class Machine:
     def wholly(self):
         """True if the root has ended."""
         return self.validator.is_complete()
-
-
-# Where the frame of the root stands: in no frame, in no part.
-ROOT = (-1, -1)
 
 
 class Spot:
@@ -159,11 +157,11 @@ def begin_element(machine, event):
 def add_frames(machine, parent, element):
     """Gives a child its frames in the lanes of the element around it."""
     taking = {mode: takers(use, element.kind) for mode, use in parent.uses.items()}
-    for number, frame in enumerate(parent.used):
-        for index in taking[frame.use.mode]:
-            # What comes into a lane that is not live gives nothing, and need not stand in the row.
-            behind = frame.ends[index] if frame.use.alive[index] else None
-            add_frame(machine, element, frame.use.rows[index][1], (number, index), behind)
+    places = [(number, frame, index) for number, frame in enumerate(parent.used) for index in taking[frame.use.mode]]
+    for number, frame, index in places:
+        # What comes into a lane that is not live gives nothing, and need not stand in the row.
+        behind = frame.ends[index] if frame.use.alive[index] else None
+        add_frame(machine, element, frame.use.rows[index][1], (number, index), behind)
 
 
 def add_frame(machine, element, mode, where, behind):

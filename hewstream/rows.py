@@ -105,7 +105,7 @@ def without_left(row):
     lanes = [index for index, token in enumerate(row) if is_lane(token)]
     if not lanes:
         return ()
-    return tuple([token for token in row[:lanes[0]] if token == BEGIN or token == END]) + row[lanes[0]:]
+    return tuple([token for token in row[:lanes[0]] if token == BEGIN]) + row[lanes[0]:]
 
 
 def kept_in(row):

@@ -151,6 +151,30 @@ class BoundTest(unittest.TestCase):
         rows = self.check(schema, rules, [0, 1, 1, 4, 4])
         self.assertEqual(rows[3], [("start", name, ()) for name in "acdb"])
 
+    def test_contents_that_cannot_end_within_the_depth(self):
+        # Behind a b must come a c, which needs two levels more: of depth 2 no b can come.
+        schema = "root a\na = a : (b, c, e?) | (d, e)\nb = b : empty\nc = c : d\nd = d : chars\ne = e : empty\n"
+        rules = 'rule m a { each m ( e ) each m ( b , d ) } rule m b { "1" "2" "3" } rule m d { "d" } rule m e { "e" }'
+        rows = self.check(schema, rules, [0, 1, 3, 3])
+        self.assertEqual(rows[1:3], [[("start", "a", ()), ("start", "d", ())], [("start", "a", ()), ("start", "b", ())]])
+
+    def test_a_sign_comes_before_a_start(self):
+        # Behind a sign, or a d, no b can come any more, and what stands behind it is written.
+        schema = ("root a\na = a : e, s\ne = e : (b | chars), d\nb = b : f\nd = d : empty\nf = f : empty\n"
+                  "s = s : empty\n")
+        rules = ('rule m a { each m ( s ) each m ( e ) } rule m e { each m ( b ) "1" "2" } rule m b { each m ( f ) } rule m f '
+                 '{ "f" } rule m s { "s" }')
+        rows = self.check(schema, rules, [0, 0, 2, 3])
+        self.assertEqual(rows[1:], [[], [("start", "a", ()), ("start", "e", ()), ("char", "a")], [
+            ("start", "a", ()), ("start", "e", ()), ("start", "b", ()), ("start", "f", ())]])
+
+    def test_an_end_comes_before_a_sign(self):
+        schema = "root a\na = a : e, s\ne = e : b? | chars\nb = b : empty\ns = s : empty\n"
+        rules = 'rule m a { each m ( s ) each m ( e ) } rule m e { each m ( b ) "1" "2" } rule m b { "b" } rule m s { "s" }'
+        rows = self.check(schema, rules, [0, 2, 3])
+        self.assertEqual(rows[1:], [[("start", "a", ()), ("start", "e", ()), ("end", "e")], [
+            ("start", "a", ()), ("start", "e", ()), ("start", "b", ())]])
+
     def test_order_of_beginnings(self):
         # An end before a sign before starts; types before cases.
         schema = "root a\na = a @x : (c | d | b), e?\nb = z : empty\nc = y : empty\nd = w @v! : empty\ne = e : empty\n"

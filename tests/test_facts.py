@@ -11,6 +11,7 @@ from hewstream.plain import plain_output
 from hewstream.programs import body_of, settled
 from hewstream.schemas import Grammar, is_schema, read_schema
 from hewstream.syntax import parse_program
+from hewstream.tokens import read_text
 from hewstream.validator import validate
 from program_oracle import STRINGS, all_documents, plain_meaning, random_program, some
 from schema_oracle import random_schema, small_content
@@ -251,11 +252,11 @@ class GivesTest(unittest.TestCase):
                 for kind in grammar.types():
                     told[facts.gives(mode, kind)] += 1
                     check_giving(self, facts, mode, kind)
-                    if facts.gives(mode, kind):
-                        continue
-                    # No element gives anything.
+                    # No element gives anything, or none with fewer events than the one that is told.
                     own = grammar_from(schema, kind)
-                    for document in some(all_documents(own, facts.cases, 9, 60), 60):
+                    element = facts.giving_element(mode, kind)
+                    most = 9 if element is None else min(len(element) - 1, 9)
+                    for document in some(all_documents(own, facts.cases, most, 60), 60):
                         self.assertEqual(plain_meaning(own, dict(program, start=mode), document), [])
         self.assertGreater(min(told.values()), 300)
 
@@ -284,6 +285,18 @@ class GivingElementTest(unittest.TestCase):
         child = [("start", "b", (("x", ""),)), ("end", "b")]
         self.assertEqual(facts.giving_element("m", "a"), [
             ("start", "a", ()), *child, *child, ("start", "c", ()), ("char", "a"), ("end", "c"), *child, ("end", "a")])
+
+    def test_fewest_events(self):
+        # By a sign, by a b within a d, by an e with a b in it; the least one is taken.
+        rules = ('rule m a { each m ( b , c , char ) } rule m b { "x" } rule m c { each m ( d , e ) } rule m d { each m ( b ) } '
+                 'rule m e { each m ( b ) } rule k a { each k ( c ) } rule k c { each m ( d , e ) }')
+        tail = "\nb = b : empty\nc = c : d | e\nd = d : b, b\ne = e : b\n"
+        for content, expected in (("b | c | chars", "<a>a</a>"), ("b | c", "<a><b/></a>"), ("c", "<a><c><e><b/></e></c></a>"),
+                                  ("(c, b) | (c, c)", "<a><c><e><b/></e></c><b/></a>"), ("(b, b, c?) | chars", "<a>a</a>")):
+            facts = facts_of("root a\na = a : " + content + tail, rules)
+            self.assertEqual(facts.giving_element("m", "a"), read_text([ord(sign) for sign in expected]))
+        facts = facts_of("root a\na = a : (b, b, b, b, c) | (b, b, c, b)" + tail, rules)
+        self.assertEqual(len(facts.giving_element("k", "a")), 2 + 6 + 6)
 
     def test_too_many(self):
         # Each type has two children of the type before it: a great element.

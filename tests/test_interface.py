@@ -21,6 +21,16 @@ FUNCTIONS = {
                     "completion grammar validator", "least_to grammar kind state targets", "events_of grammar row"],
     "programs": ["is_program value", "fits program grammar", "body_of program mode kind", "settled body attributes",
                  "values_named body"],
+    "syntax": ["parse_program text", "print_program program"],
+    "plain": ["plain_output grammar program document", "without_places output"],
+    "machine": ["run_document grammar program document"],
+    "chains": ["plain_chain links document"],
+    "blocking": ["first_blocking facts", "after_edge facts state attributes edge", "steps_of facts state",
+                 "all_blocking facts"],
+    "pumps": ["has_pump facts state", "decide facts", "judge_table facts paper", "judge_pump grammar program paper"],
+    "bounds": ["least_depths facts", "bound facts depth"],
+    "outcheck": ["keys_of facts output", "behaviour facts output kind attributes children", "check_output facts output",
+                 "judge_behaviours facts output table"],
 }
 CLASSES = {
     "errors": {"StreamError": [], "NotValid": [], "TooMany": [], "BadByte": ["__init__ place"],
@@ -31,12 +41,21 @@ CLASSES = {
                             "is_final kind state", "schema"]},
     "validator": {"Validator": ["__init__ grammar", "take event", "expected", "open_types", "states", "is_complete",
                                 "fault", "copied"]},
+    "facts": {"Facts": ["__init__ grammar program", "cases kind", "parts mode kind attributes",
+                        "lanes mode kind attributes", "gives mode kind", "gives_symbol mode symbol",
+                        "live mode symbols kind state", "round_edges kind", "giving_element mode kind"]},
+    "machine": {"Machine": ["__init__ grammar program facts", "event event", "kept", "shape", "frames", "depth",
+                            "wholly"]},
+    "chains": {"Chain": ["__init__ links", "event event", "kept", "wholly"]},
 }
 CONSTANTS = {
     "tokens": {"MOST_DEPTH": 60, "MOST_NAME": 8},
     "automata": {"MOST_STATES": 30, "MOST_SETS": 400},
     "completions": {"MOST_EVENTS": 1000},
     "programs": {"MOST_MODES": 8, "MOST_NESTED": 6, "MOST_ITEMS": 60},
+    "facts": {"MOST_CASES": 100},
+    "blocking": {"MOST_BLOCKING": 3000},
+    "outcheck": {"MOST_BEHAVIOURS": 100, "MOST_ROWS": 300},
 }
 
 
@@ -66,6 +85,9 @@ class InterfaceTest(unittest.TestCase):
                 for row in rows:
                     # In the class itself, not in a base class.
                     self.check(vars(found)[row.split()[0]], row, ["self"])
+
+    def test_facts_may_be_left_out(self):
+        self.assertIsNone(inspect.signature(module("machine").Machine).parameters["facts"].default)
 
     def test_constants(self):
         for name, constants in CONSTANTS.items():

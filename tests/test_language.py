@@ -1,6 +1,7 @@
 """The rules of the language that can be seen file by file."""
 
 import ast
+import builtins
 import os
 import re
 import unittest
@@ -87,6 +88,51 @@ class LanguageTest(unittest.TestCase):
                     self.assertIsInstance(node.value, ast.Constant, name)
                 if isinstance(node, ast.Assign):
                     self.assertFalse([part for part in ast.walk(node.value) if isinstance(part, ast.Call)], name)
+
+    def test_names_of_builtins(self):
+        for name, tree in trees().items():
+            names = defined_names(tree)
+            for node in ast.walk(tree):
+                if isinstance(node, ast.FunctionDef):
+                    names.extend(bound_names(node))
+            self.assertEqual(sorted(set(names) & set(dir(builtins))), [], name)
+
+    def test_is_only_with_none(self):
+        for name, tree in trees().items():
+            for node in ast.walk(tree):
+                if isinstance(node, ast.Compare) and any(isinstance(sign, (ast.Is, ast.IsNot)) for sign in node.ops):
+                    self.assertEqual([part.value for part in node.comparators], [None], (name, node.lineno))
+
+    def test_attributes_and_methods(self):
+        taken = set()
+        for kind in (str, int, list, dict, set, bytes):
+            taken.update(dir(kind))
+        for name, tree in trees().items():
+            for node in tree.body:
+                if isinstance(node, ast.ClassDef):
+                    methods = {part.name for part in node.body if isinstance(part, ast.FunctionDef)}
+                    attributes = {part.attr for part in ast.walk(node) if isinstance(part, ast.Attribute)
+                                  and isinstance(part.ctx, ast.Store)}
+                    self.assertEqual(methods & attributes, set(), (name, node.name))
+                    self.assertEqual((methods - {"__init__"}) & taken, set(), (name, node.name))
+                    self.assertEqual(attributes & (taken - {"index", "count"}), set(), (name, node.name))
+
+    def test_sets_stand_in_sorted_len_and_in(self):
+        for name, tree in trees().items():
+            around = {part: node for node in ast.walk(tree) for part in ast.iter_child_nodes(node)}
+            for node in ast.walk(tree):
+                if isinstance(node, ast.Call) and isinstance(node.func, ast.Name) and node.func.id == "set":
+                    outer = around[node]
+                    called = isinstance(outer, ast.Call) and outer.func.id in ("sorted", "len")
+                    self.assertTrue(called or isinstance(outer, ast.Assign), (name, node.lineno))
+                self.assertNotIsInstance(node, (ast.Set, ast.SetComp), (name, getattr(node, "lineno", 0)))
+
+    def test_imports_are_used(self):
+        for name, tree in trees().items():
+            used = {node.id for node in ast.walk(tree) if isinstance(node, ast.Name)}
+            for node in tree.body:
+                if isinstance(node, ast.ImportFrom):
+                    self.assertEqual([alias.name for alias in node.names if alias.name not in used], [], name)
 
     def test_imports(self):
         found = trees()

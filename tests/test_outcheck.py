@@ -217,6 +217,37 @@ class CheckTest(unittest.TestCase):
         self.assertNotIn(("x", "1"), self.wrong(facts, grammar_of("root p\np = p @k! : chars\n"))[0][2])
         self.assertIn(("x", "1"), self.wrong(facts, grammar_of("root p\np = p : chars\n"))[0][2])
 
+    def test_each_case_counts(self):
+        # The cases differ in a name, in the attributes, in a lane, or in an end, and only one of them is right.
+        output = grammar_of("root p\np = p @k : q?, r?\nq = q : chars\nr = r : chars\n")
+        for good, bad in (("make q { }", "make z { }"), ("make q { }", "make p { }"), ("make r { }", "make r ( k = @ x ) { }"),
+                          ("make q { make q { } }", "make q { }"), ("make q { each m ( char ) }", "each m ( char )"),
+                          ("make q { } make r { }", "make r { } make q { }"), ("make q { each d ( char ) }", "each m ( char )"),
+                          ('make q { "1" }', 'make q { } "1"'), ("make q { } make r { }", "make q { make r { } }")):
+            for one, other, there in ((good, bad, False), (bad, good, True)):
+                if "make q { make q" in good:
+                    one, other, there = "make q { }", "make q { make q { } }", False
+                facts = facts_of("root a\na = a @x : chars\n", "rule m a { make p { if @ x { " + one + " } else { " + other + " } } }")
+                self.assertEqual(self.wrong(facts, output)[0][2] != (), there)
+        facts = facts_of("root a\na = a @x : chars\n", 'rule m a { if @ x { make p ( k = "" ) { } } else { make p ( z = "" ) { } } }')
+        self.assertEqual(self.wrong(facts, output)[0][2], ())
+
+    def test_fewest_events(self):
+        # The output is wrong by two signs, or by an element c with four within it.
+        schema = "root a\na = a : (chars, b?) | c\nb = b : empty\nc = c : (b, b)\n"
+        output = grammar_of("root p\np = p : q?\nq = q : empty\n")
+        for rules, text in (("rule m a { make p { each m ( b , c , char ) } } rule m b { make p { } } rule m c { make p { } }", "<a>a</a>"),
+                            ("rule m a { make p { each d ( char ) each m ( b , c ) } } rule m b { make p { } } rule m c { make p { } }",
+                             "<a><b/></a>"),
+                            ("rule m a { make p { each m ( c ) } } rule m c { make p { } }", "<a><c><b/><b/></c></a>"),
+                            ("rule m a { make p { each m ( b , c ) } } rule m b { make q { } } rule m c { each m ( b ) }",
+                             "<a><c><b/><b/></c></a>")):
+            self.wrong(facts_of(schema, rules), output, text)
+        # An element with two children a sign each, or one with four that have none.
+        schema = "root a\na = a : b | c\nb = b : d, d, d, d, chars\nc = c : e, e, e, chars\nd = d : empty\ne = e : d\n"
+        rules = "rule m a { make p { each m ( b , c ) } } rule m b { make p { } } rule m c { make p { } }"
+        self.assertEqual(len(self.wrong(facts_of(schema, rules), output)), 12)
+
     def test_no_rules(self):
         self.wrong(facts_of("root a\na = a : a*\n", ""), grammar_of("root p\np = p : empty\n"), "<a/>")
 
@@ -370,6 +401,17 @@ class LimitsTest(unittest.TestCase):
             if expected is not None:
                 output = "root o\no = o : p, q\n" + ring("p", "x", one) + ring("q", "x", other) + "x = x : empty\n"
                 self.check(schema, rules, output, expected)
+
+    def test_rows_of_all_states_are_counted(self):
+        # In both states of the content there are as many functions.
+        rules = ("rule m r { make o { make p { each m ( b ) } make q { each m ( b ) } } } rule m b { make x { } }")
+        for content, one, other, expected in (("(b, b)*", 26, 11, "wrong"), ("(b, b)*", 13, 23, "many"), ("b*, c?", 11, 13, "wrong"), ("b*, c?", 12, 13, "many"),
+                                              ("b*, c?, c?", 9, 11, "wrong"), ("b*, c?, c?", 9, 13, "many")):
+            schema = "root r\nr = r : " + content + "\nb = b : empty\nc = c : empty\n"
+            if "c" not in content:
+                schema = schema.replace("b = b : empty", "b = b : c?")
+            output = "root o\no = o : p, q\n" + ring("p", "x", one) + ring("q", "x", other) + "x = x : empty\n"
+            self.check(schema, rules, output, expected)
 
     def test_rows_of_one_case_are_counted(self):
         # By itself each case has 209 rows.

@@ -106,6 +106,15 @@ class HasPumpTest(unittest.TestCase):
         self.check(rules.replace("rule k d", "rule n a"), ((), (0, "b", 0), ("n", 0), None), state, schema)
 
 
+    def test_blocked_and_free_modes_together_ascend(self):
+        schema = "root a\na = a : d\nb = b : empty\nc = c : empty\nd = d : (b | c)*\n"
+        rules = "rule k d { each n ( c ) each k ( b ) } rule n d { each k ( b ) }"
+        self.check(rules, ((), (0, "b", 0), ("k", 1), ("k", 0)), ("d", ("n",), ("k",), ()), schema)
+        self.check(rules, ((), (0, "b", 0), ("k", 1), None), ("d", ("k",), ("n",), ()), schema)
+        self.check("rule k d { each n ( c ) } rule n d { each k ( b ) }", ((), (0, "b", 0), ("n", 0), None),
+                   ("d", ("n",), ("k",), ()), schema)
+
+
 class DecideTest(unittest.TestCase):
     def check(self, schema, rules, refused):
         facts = facts_of(schema, rules)
@@ -167,6 +176,43 @@ class DecideTest(unittest.TestCase):
         self.assertEqual(begin[-1], ("start", "g", (("x", "1"),)))
         self.assertEqual(again, [("start", "a", ()), ("end", "a")])
         self.assertIn(("char", "a"), rest)
+
+    def test_the_live_lane_stands_ahead(self):
+        # The e within an o is blocked in some frames of the o and not in others, by an s or by a t.
+        schema = ("root r\nr = r : o\no = o : e, (s | t | u)?\ne = e : a*\na = a : empty\ns = s : empty\nt = t : empty\n"
+                  "u = u : empty\n")
+        texts = ' rule n e { each w ( a ) } rule w a { "a" } rule w s { "s" } rule w t { "t" } rule w u { "u" }'
+        for first, second in ("pq", "qp"):
+            start = f"rule m r {{ each {first} ( o ) each {second} ( o ) }}"
+            for one, other in (("each w ( t ) each n ( e )", "each w ( s ) each k ( e )"),
+                               ("each w ( t )", "each n ( e ) each w ( s )"),
+                               ("each w ( t ) each n ( e ) each w ( u )", "each w ( s ) each n ( e )"),
+                               ("each k ( e ) each w ( t ) each n ( e )", "each n ( t ) each w ( u ) each k ( e )"),
+                               ("each k ( e )", "each w ( s ) each n ( e ) each w ( u )"),
+                               ("each n ( e )", "each w ( u ) each n ( s ) each n ( e )"),
+                               ("each k ( e ) each n ( s )", "each w ( s ) each k ( e ) each n ( e ) each w ( u )")):
+                rules = start + f" rule {first} o {{ {one} }} rule {second} o {{ {other} }}" + texts
+                facts = facts_of(schema, rules, "".join(f"mode {mode} drops " for mode in "kmnpqw"))
+                answer, paper = decide(facts)
+                self.assertEqual(answer, "refused")
+                self.assertIs(judge_pump(facts.grammar, facts.program, paper), True)
+                self.assertEqual(paper[1], [("start", "a", ()), ("end", "a")])
+
+    def test_children_before_the_live_lane_gets_something(self):
+        schema = "root r\nr = r : a*, d, (b | (d, c))\na = a : empty\nb = b : chars\nc = c : empty\nd = d : empty\n"
+        for name, row in (("b", ["d", "b"]), ("c", ["d", "d", "c"])):
+            paper = self.check(schema, 'rule m r { each m ( ' + name + ' ) each m ( a ) } rule m a { "a" } rule m b { "b" } '
+                                       'rule m c { "c" }', True)
+            self.assertEqual([event[1] for event in paper[2] if event[0] == "start"], row)
+
+    def test_the_least_row_that_gives_something(self):
+        schema = ("root r\nr = r : a*, ((d, b) | (b, d, d) | (c, b, b) | (d, c))\na = a : empty\nb = b : d, d\nc = c : d\n"
+                  "d = d : empty\n")
+        for name, row in (("b", ["d", "b"]), ("c", ["d", "c"])):
+            paper = self.check(schema, 'rule m r { each m ( ' + name + ' ) each m ( a ) } rule m a { "a" } rule m b { "b" } '
+                                       'rule m c { "c" }', True)
+            nested = [sum({"start": 1, "end": -1}[event[0]] for event in paper[2][:many]) for many in range(len(paper[2]))]
+            self.assertEqual([event[1] for event, depth in zip(paper[2], nested) if event[0] == "start" and depth == 0], row)
 
     def test_missing_rules(self):
         self.assertEqual(self.check("root a\na = a : a*\n", "", False), (("a", (), ("m",), ()),))
@@ -239,7 +285,9 @@ class JudgeTableTest(unittest.TestCase):
             state = table[index]
             for other in (list(state), state[:3], (*state, ()), (state[0], list(state[1]), *state[2:]), None, Same(), "abcd",
                           (*state[:3], list(state[3])), (Same(), *state[1:]), (*state[:3], Same()), (*state[:3], (Same(),)),
-                          (*state[:3], ((Same(), "m"),)), (state[0], (Same(),), *state[2:])):
+                          (*state[:3], ((Same(), "m"),)), (state[0], (Same(),), *state[2:]),
+                          (["a"], *state[1:]), (state[0], ([],), *state[2:]), (*state[:2], ([],), state[3]), (*state[:2], "m", ()),
+                          (*state[:2], [], state[3]), (*state[:3], ((["m"], "m"),)), (*state[:3], (("m",),)), (*state[:3], "mm")):
                 yield table[:index] + (other,) + table[index + 1:]
         for one, other in itertools.combinations(range(len(table)), 2):
             row = list(table)
@@ -378,6 +426,15 @@ class JudgePumpTest(unittest.TestCase):
                 # Also if there are other faults than these.
                 with self.assertRaises(TooMany):
                     judge_pump(facts.grammar, facts.program, (paper[0], [], paper[2]))
+            else:
+                self.assertIs(judge_pump(facts.grammar, facts.program, paper), True)
+        # Only behind u and v.
+        facts = facts_of(schema, 'rule m a { each m ( a ) each m ( a ) each m ( b ) } rule m b { "b" }')
+        for depth, frames in ((1, 1), (8, 767), (9, 1535)):
+            paper = (deep, child, deep * depth + child + [end] * (depth + 1))
+            if frames > 1000:
+                with self.assertRaises(TooMany):
+                    judge_pump(facts.grammar, facts.program, paper)
             else:
                 self.assertIs(judge_pump(facts.grammar, facts.program, paper), True)
         # More than 20000 events.

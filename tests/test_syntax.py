@@ -132,6 +132,14 @@ class ParseTest(FaultCase):
         self.fault("start m mode m keeps rule m a { make b { } else { } }", 1, 44)
         self.fault("start m mode m keeps rule m a { if @ x { } else { } else { } }", 1, 53)
 
+    def test_strings_are_no_words(self):
+        for text, place in (('"start" m mode m keeps', 1), ('start m "mode" m keeps', 9), ('start m mode m "keeps"', 16),
+                            ('start m mode m keeps "rule" m a { }', 22), ('start "m" mode m keeps', 7),
+                            ('start m mode m keeps rule m a { if @ x { } "else" { } }', 51)):
+            self.fault(text, 1, place)
+        body = parse_program('start m mode m keeps rule m a { "make" "each" if @ x { } "else" "if" }')["rules"]["m", "a"]
+        self.assertEqual(body, (("text", "make"), ("text", "each"), ("if", "x", None, (), ()), ("text", "else"), ("text", "if")))
+
     def test_blanks(self):
         for text in (WHOLE, WORDS):
             words = [word for word, _ in words_of(text)]
