@@ -194,6 +194,14 @@ def all_documents(grammar, cases, most, width=None):
         rows = longer
 
 
+def deepest(document):
+    """How deep the elements of a document, or of its beginning, are nested."""
+    nested = [0]
+    for event in document:
+        nested.append(nested[-1] + {"start": 1, "char": 0, "end": -1}[event[0]])
+    return max(nested)
+
+
 def some(rows, many):
     return list(itertools.islice(rows, many))
 

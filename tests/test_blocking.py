@@ -10,7 +10,7 @@ from hewstream.errors import TooMany
 from hewstream.facts import Facts
 from hewstream.schemas import Grammar, is_schema, read_schema
 from hewstream.syntax import parse_program
-from program_oracle import STRINGS, random_document, random_program
+from program_oracle import STRINGS, deepest, random_document, random_program
 from schema_oracle import random_schema, small_content
 
 
@@ -38,14 +38,6 @@ def last_open(events):
         elif event[0] == "end":
             around.pop()
     return around[-1]
-
-
-def deepest(document):
-    """How deep the elements of the document are nested."""
-    nested = [0]
-    for event in document:
-        nested.append(nested[-1] + {"start": 1, "char": 0, "end": -1}[event[0]])
-    return max(nested)
 
 
 class StatesTest(unittest.TestCase):

@@ -11,18 +11,12 @@ from hewstream.pumps import decide
 from hewstream.schemas import Grammar, is_schema, read_schema
 from hewstream.syntax import parse_program
 from hewstream.validator import Validator
-from program_oracle import all_documents, random_program, some
+from program_oracle import all_documents, deepest, random_program, some
 from schema_oracle import random_schema, small_content
 
 
 def facts_of(schema, rules, modes="mode k drops mode m keeps mode n keeps"):
     return Facts(Grammar(read_schema(schema)), parse_program("start m " + modes + " " + rules))
-
-
-def depth_of(events):
-    """The greatest depth of the beginning of a document."""
-    nested = [sum({"start": 1, "char": 0, "end": -1}[event[0]] for event in events[:many]) for many in range(len(events) + 1)]
-    return max(nested)
 
 
 def kept_behind(facts, events):
@@ -52,7 +46,7 @@ def short_beginnings(facts, most):
     """All beginnings of valid documents of at most so many events, with the least depth of such documents."""
     found = {}
     for document in all_documents(facts.grammar, facts.cases, most):
-        depth = depth_of(document)
+        depth = deepest(document)
         for many in range(1, len(document) + 1):
             row = tuple(document[:many])
             found[row] = min(depth, found.get(row, depth))
@@ -76,7 +70,7 @@ class LeastDepthsTest(unittest.TestCase):
             facts = Facts(grammar, {"start": "m", "modes": {"m": True}, "rules": {}})
             found = least_depths(facts)
             self.assertEqual(sorted(found), grammar.types())
-            documents = [depth_of(document) for document in some(all_documents(grammar, facts.cases, 8, 300), 200)]
+            documents = [deepest(document) for document in some(all_documents(grammar, facts.cases, 8, 300), 200)]
             if documents:
                 self.assertLessEqual(found[grammar.root], min(documents))
                 if found[grammar.root] < 4:
@@ -119,8 +113,8 @@ class BoundTest(unittest.TestCase):
         # Of depth 1 no b can come, but the lane of the b is live.
         self.check("root a\na = a : chars, b?\nb = b : empty\n", 'rule m a { "1" each m ( b ) "2" } rule m b { "b" }', [0, 0])
         rows = self.check("root a\na = a @x : b?\nb = b : c?\nc = c : empty\n",
-                          'rule m a { each m ( b ) each n ( b ) } rule m b { each m ( c ) } rule n b { "n" if @ y { } } '
-                          'rule m c { "c" }'.replace(" if @ y { }", ""), [0, 1, 1])
+                          'rule m a { each m ( b ) each n ( b ) } rule m b { each m ( c ) } rule n b { "n" } rule m c { "c" }',
+                          [0, 1, 1])
         self.assertEqual(rows[1], [("start", "a", ()), ("start", "b", ())])
 
     def test_no_document_of_the_depth(self):
@@ -201,8 +195,8 @@ class BoundTest(unittest.TestCase):
 
     def test_cases(self):
         schema = "root a\na = a @x : b, c\nb = b @y : empty\nc = c : empty\n"
-        rules = ('rule m a { if @ x = "1" { each m ( c ) } each m ( b ) } rule m c { "c" } rule m b { if @ y = "1" { "1" if @ x '
-                 '{ } } else { "2" "2" "2" } }').replace(" if @ x { }", "")
+        rules = ('rule m a { if @ x = "1" { each m ( c ) } each m ( b ) } rule m c { "c" } rule m b { if @ y = "1" { "1" } else '
+                 '{ "2" "2" "2" } }')
         rows = self.check(schema, rules, [0, 3])
         self.assertEqual(rows[1], [("start", "a", (("x", "1"),)), ("start", "b", ())])
 
@@ -238,7 +232,7 @@ class BoundTest(unittest.TestCase):
     def check_first(self, facts, depth, number, events, rows):
         """No beginning of a document of this depth keeps more, and none before this one keeps as much."""
         self.assertEqual(kept_behind(facts, events), number)
-        self.assertLessEqual(depth_of(events), depth)
+        self.assertLessEqual(deepest(events), depth)
         order = order_of(facts, events)
         for row, deep, kept in rows:
             if deep <= depth:

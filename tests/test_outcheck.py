@@ -12,7 +12,7 @@ from hewstream.syntax import parse_program
 from hewstream.tokens import read_text
 from hewstream.validator import validate
 from output_oracle import is_right, seen_behaviour, states_of_context
-from program_oracle import all_documents, random_body, random_program, some
+from program_oracle import all_documents, deepest, random_body, random_program, some
 from samples import ODD_CONTENTS, Same
 from schema_oracle import random_schema, small_content
 from test_facts import grammar_from
@@ -30,16 +30,9 @@ def events_in(text):
     return read_text([ord(sign) for sign in text])
 
 
-def deepest(document):
-    nested = [0]
-    for event in document:
-        nested.append(nested[-1] + {"start": 1, "char": 0, "end": -1}[event[0]])
-    return max(nested)
-
-
 class KeysTest(unittest.TestCase):
     SCHEMA = "root a\na = a @x : (b | c)*\nb = b : a?, chars\nc = c : empty\n"
-    OUTPUT = grammar_of("root p\np = p : q*, r?\nq = q : (q | s)*\nr = r @k! : s?\ns = q : chars\n".replace("(q | s)*", "(q | r)*"))
+    OUTPUT = grammar_of("root p\np = p : q*, r?\nq = q : (q | r)*\nr = r @k! : s?\ns = q : chars\n")
 
     def check(self, rules, a="", b="", c=""):
         """The keys of each type, as words "mode context", the top being "mode"."""
@@ -243,10 +236,29 @@ class CheckTest(unittest.TestCase):
                             ("rule m a { make p { each m ( b , c ) } } rule m b { make q { } } rule m c { each m ( b ) }",
                              "<a><c><b/><b/></c></a>")):
             self.wrong(facts_of(schema, rules), output, text)
-        # An element with two children a sign each, or one with four that have none.
-        schema = "root a\na = a : b | c\nb = b : d, d, d, d, chars\nc = c : e, e, e, chars\nd = d : empty\ne = e : d\n"
-        rules = "rule m a { make p { each m ( b , c ) } } rule m b { make p { } } rule m c { make p { } }"
-        self.assertEqual(len(self.wrong(facts_of(schema, rules), output)), 12)
+        # An element with four small children, or one with three greater ones; and signs or elements.
+        for small, great in ("bc", "cb"):
+            schema = (f"root a\na = a : b | c\n{small} = {small} : d, d, d, d, chars\n{great} = {great} : e, e, e, chars\n"
+                      "d = d : empty\ne = e : d\n")
+            rules = "rule m a { make p { each m ( b , c ) } } rule m b { make p { } } rule m c { make p { } }"
+            document = self.wrong(facts_of(schema, rules), output)
+            self.assertEqual(document, events_in(f"<a><{small}>" + "<d/>" * 4 + f"</{small}></a>"))
+            schema = f"root a\na = a : b | c\n{small} = {small} : chars\n{great} = {great} : d?\nd = d : empty\n"
+            rules = ("rule m a { make p { each m ( b , c ) } } rule m b { each m ( char , d ) } rule m c { each m ( char , d ) } "
+                     "rule m d { make p { } }")
+            document = self.wrong(facts_of(schema, rules), output)
+            self.assertEqual(document, events_in(f"<a><{small}>a</{small}></a>"))
+            rules = "rule m a { make p { each m ( b , c ) } } rule m b { make p { } } rule m c { make p { } }"
+            # A few elements deep within each other, or many side by side.
+            schema = (f"root a\na = a : b | c\n{small} = {small} : e\n{great} = {great} : d, d, d, d, d, d\nd = d : empty\n"
+                      "e = e : f\nf = f : g\ng = g : empty\n")
+            document = self.wrong(facts_of(schema, rules), output)
+            self.assertEqual(document, events_in(f"<a><{small}><e><f><g/></f></e></{small}></a>"))
+            # One element or two within.
+            schema = f"root a\na = a : {small} | {great}\n{small} = {small} : d\n{great} = {great} : d, d\nd = d : empty\n"
+            rules = "rule m a { make p { each m ( b , c ) } } rule m b { make p { } } rule m c { make p { } }"
+            document = self.wrong(facts_of(schema, rules), output)
+            self.assertEqual(document, events_in(f"<a><{small}><d/></{small}></a>"))
 
     def test_no_rules(self):
         self.wrong(facts_of("root a\na = a : a*\n", ""), grammar_of("root p\np = p : empty\n"), "<a/>")
@@ -428,16 +440,12 @@ class LimitsTest(unittest.TestCase):
         output = "root o\no = o : p, q\n" + ring("p", "x", 17) + ring("q", "x", 18) + "x = x : empty\n"
         self.check(schema, rules, output, "many")
 
-    def test_right_just_within(self):
-        # Any number of x in both: rings from which each state is an end.
+    def test_right(self):
+        # Any number of x in both.
         schema = "root r\nr = r : b*\nb = b : empty\n"
         rules = "rule m r { make o { make p { each m ( b ) } make q { each m ( b ) } } } rule m b { make x { } }"
 
-        def loose(name, many):
-            inner = "(" * (many - 1) + "x" + "".join(", x?)?" if number else "" for number in range(many))
-            return inner and f"{name} = {name} : x*\n"
-
-        output = "root o\no = o : p, q\n" + loose("p", 3) + loose("q", 2) + "x = x : empty\n"
+        output = "root o\no = o : p, q\np = p : x*\nq = q : x*\nx = x : empty\n"
         facts, table = self.check(schema, rules, output, "right")
         self.assertEqual(table, {"b": (((("m", "p"), (0,)), (("m", "q"), (0,))),), "r": (((("m", ""), (1, -1)),),)})
         self.assertIs(judge_behaviours(facts, grammar_of(output), table), True)
@@ -540,7 +548,7 @@ class JudgeTest(unittest.TestCase):
 
     def test_documents_are_no_tables(self):
         facts = facts_of(self.SCHEMA, self.RULES)
-        answer, document = check_output(facts, grammar_of("root p\np = p : empty\nq = q : chars\n".replace("empty\nq", "q?\nq")))
+        answer, document = check_output(facts, grammar_of("root p\np = p : q?\nq = q : chars\n"))
         self.assertEqual(answer, "wrong")
         self.assertTrue(is_document(document))
         self.assertIs(judge_behaviours(facts, self.output, document), False)

@@ -60,8 +60,7 @@ class HasPumpTest(unittest.TestCase):
         self.check("rule m a { each m ( d ) each m ( c ) }", ((), (1, "c", 1), ("m", 1), ("m", 0)), schema=schema)
 
     def test_signs(self):
-        schema = "root a\na = a : chars, b\nb = b : empty\nc = c : empty\nd = d : empty\n"
-        schema = schema.replace("chars, b", "chars, b, c?, d?")
+        schema = "root a\na = a : chars, b, c?, d?\nb = b : empty\nc = c : empty\nd = d : empty\n"
         self.check("rule m a { each m ( b ) each m ( char ) }", ((), (0, "char", 0), ("m", 1), ("m", 0)), schema=schema)
         self.check("rule m a { each m ( b ) each k ( char ) }", None, schema=schema)
         self.check("rule m a { each m ( char ) each m ( b ) }", None, schema=schema)
@@ -69,8 +68,7 @@ class HasPumpTest(unittest.TestCase):
     def test_blocked(self):
         # By a lane of the root a blocked frame has a pump at each round edge that gives something.
         state = ("d", ("m",), (), ())
-        self.check("rule m d { each m ( b ) }".replace("rule m d", "rule n d"), ((), (0, "b", 0), ("n", 0), None),
-                   ("d", ("n",), (), ()))
+        self.check("rule n d { each m ( b ) }", ((), (0, "b", 0), ("n", 0), None), ("d", ("n",), (), ()))
         self.check("rule n d { each n ( b ) each k ( b ) }", ((), (0, "b", 0), ("n", 1), None), ("d", ("n",), (), ()))
         self.check("rule n d { each m ( c ) }", None, ("d", ("n",), (), ()))
         self.check("rule n d { each n ( c ) }", None, state)
@@ -82,8 +80,7 @@ class HasPumpTest(unittest.TestCase):
                 (), (0, "c", 0), ("n", 0), ("k", 0)))):
             self.check("rule n d { each n ( c ) } rule k d { each k ( b ) }", expected, ("d", (), ("k", "n"), pairs), schema)
         # The least mode with a live lane, and its first live one; a lane of the same rule comes before it.
-        rules = "rule m d { each n ( b ) } rule n d { each k ( c ) each n ( c ) each n ( c ) } rule k d { each k ( b ) }"
-        rules = rules.replace("rule m d", "rule n a")
+        rules = "rule n d { each k ( c ) each n ( c ) each n ( c ) } rule k d { each k ( b ) }"
         self.check(rules, ((), (0, "b", 0), ("k", 0), ("n", 1)), ("d", (), ("k", "m", "n"), (("m", "k"), ("n", "k"))),
                    schema)
         self.check("rule n d { each n ( c ) } rule k d { each n ( c ) each k ( b ) }", ((), (0, "b", 0), ("k", 1), ("k", 0)),
@@ -103,7 +100,7 @@ class HasPumpTest(unittest.TestCase):
         rules = "rule k d { each n ( c ) each k ( b ) } rule n d { each k ( b ) each k ( b ) }"
         state = ("d", ("k", "n"), (), ())
         self.check(rules, ((), (0, "b", 0), ("k", 1), None), state, schema)
-        self.check(rules.replace("rule k d", "rule n a"), ((), (0, "b", 0), ("n", 0), None), state, schema)
+        self.check("rule n d { each k ( b ) each k ( b ) }", ((), (0, "b", 0), ("n", 0), None), state, schema)
 
 
     def test_blocked_and_free_modes_together_ascend(self):
