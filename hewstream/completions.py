@@ -133,6 +133,11 @@ def expanded(grammar, known, parts):
     """The events of a list of symbols and end events, with a least element for each type."""
     if sum([1 if isinstance(part, tuple) else weight_of(part, known) for part in parts]) > MOST_EVENTS:
         raise TooMany()
+    return told_events(grammar, known, parts)
+
+
+def told_events(grammar, known, parts):
+    """The same, however many events they are."""
     events = []
     rows = {}
     todo = parts[::-1]

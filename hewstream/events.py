@@ -83,6 +83,13 @@ def is_end(value):
     return is_event(value, "end", 2) and is_name(value[1])
 
 
+def is_output_event(value):
+    """True if the value is an output event."""
+    if is_event(value, "signs", 2):
+        return is_signs(value[1]) and value[1] != ""
+    return is_start(value) or is_char(value) or is_end(value)
+
+
 def is_event(value, kind, length):
     return is_tuple(value, length) and isinstance(value[0], str) and value[0] == kind
 

@@ -12,7 +12,7 @@ def plain_output(grammar, program, document):
     """The list of the tuples (output event, place)."""
     if not is_fitting(program, grammar) or not is_document(document) or validate(grammar, document) != (-1, ""):
         raise NotValid()
-    uses = uses_in(program, nodes_in(grammar, document))
+    uses = uses_in(program, nodes_in(grammar, document, grammar.root))
     rows = {}
     counts = {}
     # Uses of children stand behind those of the elements around them.
@@ -47,8 +47,8 @@ class Node:
         self.children = []
 
 
-def nodes_in(grammar, document):
-    """A dict from the numbers of the start events of a valid document to the elements, ascending."""
+def nodes_in(grammar, document, root):
+    """A dict from the numbers of the start events of a valid element of the type to the elements, ascending."""
     nodes = {}
     around = []
     for number, event in enumerate(document):
@@ -57,7 +57,7 @@ def nodes_in(grammar, document):
         elif event[0] == "char":
             around[-1].children.append(("char", number, event[1]))
         else:
-            kind = grammar.child_type(around[-1].kind, event[1]) if around else grammar.root
+            kind = grammar.child_type(around[-1].kind, event[1]) if around else root
             if around:
                 around[-1].children.append((kind, number, ""))
             nodes[number] = Node(kind, event[2])
@@ -76,7 +76,8 @@ def uses_in(program, nodes):
         for mode in program["modes"]:
             if (number, mode) not in uses:
                 continue
-            pieces = pieces_of(program, mode, number, node)
+            parts = settled(body_of(program, mode, node.kind), node.attributes)
+            pieces = pieces_of(program, parts, number, node)
             uses[number, mode] = pieces
             inner = [piece for piece in pieces if is_use(piece)]
             for piece in inner:
@@ -92,10 +93,10 @@ def is_use(piece):
     return isinstance(piece[0], int)
 
 
-def pieces_of(program, mode, number, node):
-    """What the rule of the mode writes for the element, child by child."""
+def pieces_of(program, parts, number, node):
+    """What a settled rule writes for the element, child by child."""
     pieces = []
-    for part in settled(body_of(program, mode, node.kind), node.attributes):
+    for part in parts:
         if part[0] == "event":
             pieces.append((part[1], number))
             continue

@@ -63,6 +63,15 @@ class Validator:
         return other
 
 
+def inner_validator(grammar, kind):
+    """A validator that has come to the beginning of the inside of an element of this type."""
+    validator = Validator(grammar)
+    validator.kinds = [kind]
+    validator.at = [0]
+    validator.begun = True
+    return validator
+
+
 def validate(grammar, events):
     """The tuple (index, fault) of the first fault; (-1, "") for a valid document."""
     validator = Validator(grammar)

@@ -31,6 +31,13 @@ FUNCTIONS = {
     "bounds": ["least_depths facts", "bound facts depth"],
     "outcheck": ["keys_of facts output", "behaviour facts output kind attributes children", "check_output facts output",
                  "judge_behaviours facts output table"],
+    "guards": ["first_wrong facts output events", "least_costs facts output"],
+    "alike": ["uses_once facts", "compare facts other", "judge_meetings facts other value",
+              "judge_difference facts other document"],
+    "insides": ["least_inside grammar kind", "rows_of facts kind attributes modes inside",
+                "is_valid_inside grammar kind events", "wide_cases facts kind"],
+    "skipping": ["decide_skip facts kind attributes modes", "judge_same facts kind attributes modes table",
+                 "judge_differ facts kind attributes modes inside"],
 }
 CLASSES = {
     "errors": {"StreamError": [], "NotValid": [], "TooMany": [], "BadByte": ["__init__ place"],
@@ -47,6 +54,8 @@ CLASSES = {
     "machine": {"Machine": ["__init__ grammar program facts", "event event", "kept", "shape", "frames", "depth",
                             "wholly"]},
     "chains": {"Chain": ["__init__ links", "event event", "kept", "wholly"]},
+    "guards": {"Guard": ["__init__ facts output", "can_be_right", "take event", "completion"]},
+    "skimmer": {"Skimmer": ["__init__ facts", "event event", "passes", "passed", "wholly"]},
 }
 CONSTANTS = {
     "tokens": {"MOST_DEPTH": 60, "MOST_NAME": 8},
@@ -56,6 +65,7 @@ CONSTANTS = {
     "facts": {"MOST_CASES": 100},
     "blocking": {"MOST_BLOCKING": 3000},
     "outcheck": {"MOST_BEHAVIOURS": 100, "MOST_ROWS": 300},
+    "skipping": {"MOST_STATES": 3000},
 }
 
 
