@@ -83,6 +83,11 @@ def is_end(value):
     return is_event(value, "end", 2) and is_name(value[1])
 
 
+def are_events(rows):
+    """True if all of the values are input events."""
+    return all([is_start(event) or is_char(event) or is_end(event) for event in rows])
+
+
 def is_output_event(value):
     """True if the value is an output event."""
     if is_event(value, "signs", 2):
@@ -92,6 +97,20 @@ def is_output_event(value):
 
 def is_event(value, kind, length):
     return is_tuple(value, length) and isinstance(value[0], str) and value[0] == kind
+
+
+def children_in(events):
+    """How many elements and signs stand in a row of whole ones; -1 if it is none."""
+    many = 0
+    names = []
+    for event in events:
+        if event[0] != "end" and not names:
+            many += 1
+        if event[0] == "start":
+            names.append(event[1])
+        elif event[0] == "end" and (not names or names.pop() != event[1]):
+            return -1
+    return -1 if names else many
 
 
 def tree_of(document):

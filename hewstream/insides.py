@@ -1,7 +1,7 @@
 """The insides of elements: the events between their start and their end, and what modes put out for them."""
 
 from hewstream.completions import expanded, least_row, weights
-from hewstream.events import is_char, is_end, is_start
+from hewstream.events import are_events
 from hewstream.plain import is_use, nodes_in, pieces_of
 from hewstream.programs import body_of, items_within, settled, values_named
 from hewstream.validator import inner_validator
@@ -61,11 +61,6 @@ def is_inside(grammar, kind, value):
     if not isinstance(value, list) or not are_events(value):
         return False
     return is_valid_inside(grammar, kind, value)
-
-
-def are_events(rows):
-    """True if all of the values are input events."""
-    return all([is_start(event) or is_char(event) or is_end(event) for event in rows])
 
 
 def strings_named(program, kind):

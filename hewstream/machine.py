@@ -7,7 +7,7 @@ from hewstream.validator import Validator
 
 MOST_FRAMES = 1000
 # Where the frame of the root stands: in no frame, in no part of one.
-ROOT = (-1, -1)
+ROOT = (None, -1)
 
 
 class Machine:
@@ -49,7 +49,7 @@ class Machine:
         """The tuple (elements, frame) of what is open."""
         inner = {}
         for element in self.around[::-1]:
-            inner = {frame.where: form_of(number, frame, inner) for number, frame in enumerate(element.used)}
+            inner = {frame.where: form_of(frame, inner) for frame in element.used}
         return tuple([(element.kind, element.state) for element in self.around]), inner.get(ROOT)
 
     def frames(self):
@@ -68,11 +68,11 @@ class Machine:
 class Spot:
     """A place in the row of the output: what is written there, or the end of a lane."""
 
-    def __init__(self, written, use, index):
+    def __init__(self, written, frame, index):
         # A tuple (output event, place), or None.
         self.written = written
-        # Of the end of a lane: the use of its frame, and the index among the parts.
-        self.use = use
+        # The frame, and the index of the part whose event or lane this is, or in whose lane the sign came.
+        self.frame = frame
         self.index = index
         self.before = None
         self.behind = None
@@ -86,6 +86,7 @@ class Element:
         self.attributes = attributes
         self.place = place
         self.state = 0
+        self.has_ended = False
         self.used = []
         self.uses = {}
 
@@ -107,20 +108,21 @@ class Use:
 class Frame:
     """One use of an element."""
 
-    def __init__(self, use, where):
+    def __init__(self, element, use, where):
+        self.element = element
         self.use = use
-        # The number of the frame of the element around it, and the index of the lane among its parts.
+        # The frame of the element around it, and the index of the lane among its parts.
         self.where = where
         # The spots at the ends of its lanes, by their indexes among the parts.
         self.ends = {}
 
 
-def form_of(number, frame, inner):
-    """The form of the frame of this number; inner has the forms of the frames of the open child."""
+def form_of(frame, inner):
+    """The form of the frame; inner has the forms of the frames of the open child."""
     form = []
     for index, row in enumerate(frame.use.rows):
         if row[0] == "lane":
-            form.append((*row, frame.use.alive[index], inner.get((number, index))))
+            form.append((*row, frame.use.alive[index], inner.get((frame, index))))
         else:
             form.append(row)
     return tuple(form)
@@ -157,30 +159,30 @@ def begin_element(machine, event):
 def add_frames(machine, parent, element):
     """Gives a child its frames in the lanes of the element around it."""
     taking = {mode: takers(use, element.kind) for mode, use in parent.uses.items()}
-    places = [(number, frame, index) for number, frame in enumerate(parent.used) for index in taking[frame.use.mode]]
-    for number, frame, index in places:
+    places = [(frame, index) for frame in parent.used for index in taking[frame.use.mode]]
+    for frame, index in places:
         # What comes into a lane that is not live gives nothing, and need not stand in the row.
         behind = frame.ends[index] if frame.use.alive[index] else None
-        add_frame(machine, element, frame.use.rows[index][1], (number, index), behind)
+        if machine.many_frames >= MOST_FRAMES:
+            raise TooMany()
+        add_frame(machine, element, frame.use.rows[index][1], (frame, index), behind)
 
 
 def add_frame(machine, element, mode, where, behind):
     """Gives an element a frame of the mode, whose parts come before the spot behind it, if it is not None."""
     machine.many_frames += 1
-    if machine.many_frames > MOST_FRAMES:
-        raise TooMany()
     if mode not in element.uses:
         element.uses[mode] = Use(mode, machine.facts.parts(mode, element.kind, element.attributes))
     use = element.uses[mode]
     use.many += 1
-    frame = Frame(use, where)
+    frame = Frame(element, use, where)
     element.used.append(frame)
     for index, row in enumerate(use.rows):
         if row[0] == "lane":
-            spot = Spot(None, use, index)
+            spot = Spot(None, frame, index)
             frame.ends[index] = spot
         else:
-            spot = Spot((row[1], element.place), None, -1)
+            spot = Spot((row[1], element.place), frame, index)
         if behind is not None:
             put_before(spot, behind)
 
@@ -194,7 +196,7 @@ def take_sign(machine, event):
         taking[mode] = [index for index in takers(use, "char") if modes[use.rows[index][1]]]
     for frame in element.used:
         for index in taking[frame.use.mode]:
-            put_before(Spot((event, machine.taken), None, -1), frame.ends[index])
+            put_before(Spot((event, machine.taken), frame, index), frame.ends[index])
             machine.many_kept += 1
     go_on(machine, element, "char")
 
@@ -202,6 +204,7 @@ def take_sign(machine, event):
 def end_element(machine):
     """The end of the open element: no lane of it is live any more."""
     element = machine.around.pop()
+    element.has_ended = True
     machine.many_frames -= len(element.used)
     for use in element.uses.values():
         use.alive = [False for _ in use.rows]
@@ -251,7 +254,7 @@ def leaving(machine):
 
 def is_dead_end(spot):
     """True if the spot is the end of a lane that is not live."""
-    return spot.use is not None and not spot.use.alive[spot.index]
+    return spot.frame is not None and not spot.frame.use.alive[spot.index]
 
 
 def run_document(grammar, program, document):

@@ -38,6 +38,10 @@ FUNCTIONS = {
                 "is_valid_inside grammar kind events", "wide_cases facts kind"],
     "skipping": ["decide_skip facts kind attributes modes", "judge_same facts kind attributes modes table",
                  "judge_differ facts kind attributes modes inside"],
+    "held": ["write_word value", "read_word data", "hold machine", "resume grammar program data"],
+    "cuttings": ["next_state state byte", "join_parts left right", "tell_text part", "run_text grammar data"],
+    "patches": ["apply_patch patch items", "undo_patch patch items", "join_patches first second many",
+                "exchanges_of document patch"],
 }
 CLASSES = {
     "errors": {"StreamError": [], "NotValid": [], "TooMany": [], "BadByte": ["__init__ place"],
@@ -55,6 +59,10 @@ CLASSES = {
                             "wholly"]},
     "chains": {"Chain": ["__init__ links", "event event", "kept", "wholly"]},
     "guards": {"Guard": ["__init__ facts output", "can_be_right", "take event", "completion"]},
+    "cuttings": {"Part": ["__init__ grammar data", "form", "width"]},
+    "edits": {"Edited": ["__init__ grammar program document", "edit rows", "back", "document", "node_keys", "output",
+                         "settled"]},
+    "upkeep": {"EditedChain": ["__init__ links document", "edit rows", "back", "output"]},
     "skimmer": {"Skimmer": ["__init__ facts", "event event", "passes", "passed", "wholly"]},
 }
 CONSTANTS = {
@@ -66,6 +74,7 @@ CONSTANTS = {
     "blocking": {"MOST_BLOCKING": 3000},
     "outcheck": {"MOST_BEHAVIOURS": 100, "MOST_ROWS": 300},
     "skipping": {"MOST_STATES": 3000},
+    "edits": {"MOST_STANDING": 5000},
 }
 
 
