@@ -3,7 +3,7 @@
 from hewstream.errors import NotValid, TooMany
 from hewstream.events import are_events, children_in, is_document, is_tuple
 from hewstream.patches import apply_patch, undo_patch
-from hewstream.plain import Node, is_use, pieces_of
+from hewstream.plain import is_use, nodes_in, pieces_of
 from hewstream.programs import body_of, is_fitting, settled
 from hewstream.tokens import is_integer
 from hewstream.validator import validate
@@ -171,7 +171,7 @@ def moment_behind(edited, marks):
     """The moment in which the document has become this one; new nodes have keys that were free before."""
     free = edited.now.free
     moment = Moment(marks, max([key for _, key in marks] + [free - 1]) + 1)
-    nodes = nodes_by_key(edited.grammar, marks)
+    nodes = nodes_in(edited.grammar, marks, edited.grammar.root)
     first = marks[0][1]
     used = {first: [edited.program["start"]]}
     many = 1
@@ -191,24 +191,6 @@ def moment_behind(edited, marks):
                 used.setdefault(child, []).append(lane)
     moment.told = told_by(edited, nodes, first)
     return moment
-
-
-def nodes_by_key(grammar, marks):
-    """A dict from the keys of the elements to these, in the order of the document."""
-    nodes = {}
-    around = []
-    for event, key in marks:
-        if event[0] == "end":
-            around.pop()
-        elif event[0] == "char":
-            around[-1].children.append(("char", key, event[1]))
-        else:
-            kind = grammar.child_type(around[-1].kind, event[1]) if around else grammar.root
-            if around:
-                around[-1].children.append((kind, key, ""))
-            nodes[key] = Node(kind, event[2])
-            around.append(nodes[key])
-    return nodes
 
 
 def uses_of(parts, node):

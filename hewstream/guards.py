@@ -22,6 +22,8 @@ class Guard:
         self.around = []
         # The behaviour of the root, when it has ended.
         self.told = None
+        # The numbers of the plans of the types, by their forms.
+        self.numbers = {}
         # What is known of rows of the search, by these.
         self.steps_known = {}
         self.ways_known = {}
@@ -107,8 +109,10 @@ def begin_element(guard, kind, attributes):
         due = child_due(guard, parent, kind)
     form = form_of(Plan(guard.facts, guard.output, kind, attributes, guard.keys_met[kind]))
     plans = guard.search.plans[kind]
+    if kind not in guard.numbers:
+        guard.numbers[kind] = {form_of(plan): number for number, plan in enumerate(plans)}
     # Some case leaves the same of all rules, but for the strings.
-    number = [form_of(plan) for plan in plans].index(form)
+    number = guard.numbers[kind][form]
     guard.around.append(Opened(kind, number, first_functions(plans[number]), due))
 
 

@@ -2,8 +2,9 @@
 
 from hewstream.completions import expanded, least_row, weights
 from hewstream.events import are_events
-from hewstream.plain import is_use, nodes_in, pieces_of
-from hewstream.programs import body_of, items_within, settled, values_named
+from hewstream.facts import strings_that_matter
+from hewstream.plain import is_use, nodes_in, numbered, pieces_of
+from hewstream.programs import body_of, items_within, settled
 from hewstream.validator import inner_validator
 
 
@@ -16,7 +17,7 @@ def least_inside(grammar, kind):
 def rows_of(facts, kind, attributes, modes, inside):
     """The tuple of the rows of the modes for an element with these attributes and this inside."""
     start = ("start", facts.grammar.name_of(kind), attributes)
-    nodes = nodes_in(facts.grammar, [start] + inside, kind)
+    nodes = nodes_in(facts.grammar, numbered([start] + inside), kind)
     uses = uses_by(facts.program, nodes, modes)
     rows = {}
     # Children are numbered behind the elements around them.
@@ -65,24 +66,19 @@ def is_inside(grammar, kind, value):
 
 def strings_named(program, kind):
     """A dict from the attributes that stand anywhere in a rule for the type to the strings compared with them."""
-    found = {}
+    found = strings_that_matter(program, kind)
     for mode, ruled in program["rules"]:
-        if ruled != kind:
-            continue
-        body = body_of(program, mode, kind)
-        for name, strings in values_named(body).items():
-            found[name] = found.get(name, []) + strings
-        for item in items_within(body):
-            for part in value_parts(item):
-                found.setdefault(part[1], [])
-    return {name: sorted(set(strings)) for name, strings in found.items()}
+        if ruled == kind:
+            for item in items_within(body_of(program, mode, kind)):
+                for name in names_in_make(item):
+                    found.setdefault(name, [])
+    return found
 
 
-def value_parts(item):
-    """The list of the values in an item, also in the attributes of a make."""
-    if item[0] == "make":
-        return [part for _, parts in item[2] for part in parts if part[0] == "value"]
-    return [item] if item[0] == "value" else []
+def names_in_make(item):
+    """The list of the attributes whose values stand in the attributes of a make."""
+    rows = item[2] if item[0] == "make" else ()
+    return [part[1] for _, parts in rows for part in parts if part[0] == "value"]
 
 
 def other_strings(strings, many):

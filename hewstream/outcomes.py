@@ -47,10 +47,14 @@ def all_fit(due, rows):
     """True if each of the rows is a part of a due row."""
     for row in rows:
         if row not in due.fitting:
-            many = len(row)
-            due.fitting[row] = any([whole[at:at + many] == row for whole in due.rows
-                                    for at in range(len(whole) - many + 1)])
+            due.fitting[row] = any([is_part(row, whole) for whole in due.rows])
     return all([due.fitting[row] for row in rows])
+
+
+def is_part(row, whole):
+    """True if the row, which is not empty, is a contiguous part of the whole one."""
+    places = [place for place, entry in enumerate(whole) if entry == row[0]]
+    return any([whole[place:place + len(row)] == row for place in places])
 
 
 def key_of(plan, symbol, offset):

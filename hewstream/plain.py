@@ -12,7 +12,7 @@ def plain_output(grammar, program, document):
     """The list of the tuples (output event, place)."""
     if not is_fitting(program, grammar) or not is_document(document) or validate(grammar, document) != (-1, ""):
         raise NotValid()
-    uses = uses_in(program, nodes_in(grammar, document, grammar.root))
+    uses = uses_in(program, nodes_in(grammar, numbered(document), grammar.root))
     rows = {}
     counts = {}
     # Uses of children stand behind those of the elements around them.
@@ -39,7 +39,7 @@ def without_places(output):
 
 
 class Node:
-    """An element of a document; its children are tuples (symbol, number of the event, sign or "")."""
+    """An element of a document; its children are tuples (symbol, key, sign or "")."""
 
     def __init__(self, kind, attributes):
         self.kind = kind
@@ -47,22 +47,30 @@ class Node:
         self.children = []
 
 
-def nodes_in(grammar, document, root):
-    """A dict from the numbers of the start events of a valid element of the type to the elements, ascending."""
+def nodes_in(grammar, marks, root):
+    """A dict from the keys of the elements of a valid element of the type to these, in their order.
+
+    Marks are the tuples (event, key) of its events; in places of keys the numbers of the events can stand.
+    """
     nodes = {}
     around = []
-    for number, event in enumerate(document):
+    for event, key in marks:
         if event[0] == "end":
             around.pop()
         elif event[0] == "char":
-            around[-1].children.append(("char", number, event[1]))
+            around[-1].children.append(("char", key, event[1]))
         else:
             kind = grammar.child_type(around[-1].kind, event[1]) if around else root
             if around:
-                around[-1].children.append((kind, number, ""))
-            nodes[number] = Node(kind, event[2])
-            around.append(nodes[number])
+                around[-1].children.append((kind, key, ""))
+            nodes[key] = Node(kind, event[2])
+            around.append(nodes[key])
     return nodes
+
+
+def numbered(document):
+    """The tuples (event, its number)."""
+    return [(event, number) for number, event in enumerate(document)]
 
 
 def uses_in(program, nodes):
