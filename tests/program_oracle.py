@@ -2,7 +2,7 @@
 
 import itertools
 
-from hewstream.completions import completion, costs_to, weights
+from hewstream.completions import completion, least_to, weights
 from hewstream.validator import Validator
 
 MODES = ["k", "m", "n"]
@@ -177,8 +177,7 @@ def all_documents(grammar, cases, most, width=None):
 
     With a width no more than so many beginnings of each length are gone on from.
     """
-    known = weights(grammar)
-    costs = {kind: costs_to(grammar.automaton(kind), grammar.automaton(kind)[0], known) for kind in grammar.types()}
+    costs = {kind: costs_to_end(grammar, kind) for kind in grammar.types()}
     rows = [([], Validator(grammar))]
     for number in range(most):
         longer = []
@@ -192,6 +191,14 @@ def all_documents(grammar, cases, most, width=None):
                         behind.open_types(), behind.states())) <= most:
                     longer.append(([*row, event], behind))
         rows = longer
+
+
+def costs_to_end(grammar, kind):
+    """A dict from the states of the content to the least numbers of events with which it can end."""
+    known = {**weights(grammar), "char": 1}
+    finals, edges = grammar.automaton(kind)
+    states = {0} | {end for _, _, end in edges}
+    return {state: sum(known[symbol] for symbol in least_to(grammar, kind, state, list(finals))) for state in states}
 
 
 def deepest(document):

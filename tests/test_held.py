@@ -5,13 +5,14 @@ import re
 import unittest
 
 from frame_oracle import Made, elements_of
-from hewstream.completions import completion
-from hewstream.errors import BadByte, NotValid, TooMany
+from hewstream.completions import events_of, least_to
+from hewstream.errors import BadByte, NotDocument, NotValid, TooMany
+from hewstream.events import is_sign
 from hewstream.facts import Facts
 from hewstream.held import hold, read_word, resume, write_word
 from hewstream.machine import Machine
 from hewstream.schemas import Grammar, is_schema
-from hewstream.tokens import Tokens, sign_of
+from hewstream.tokens import Tokens
 from program_oracle import random_document, random_program
 from samples import ODD_CONTENTS
 from schema_oracle import random_schema, small_content
@@ -101,7 +102,7 @@ def rest_of(text):
     found = re.match(r"t(0|[1-9][0-9]{0,8}):", text)
     if found:
         end = found.end() + int(found.group(1))
-        if end <= len(text) and all(sign_of(ord(sign)) for sign in text[found.end():end]):
+        if end <= len(text) and all(is_sign(sign) for sign in text[found.end():end]):
             return text[end:]
         return None
     if text[:1] != "(":
@@ -121,7 +122,7 @@ def can_begin(text):
     # A string that is not ended: an empty one could stand in its place.
     for found in re.finditer(r"t(0|[1-9][0-9]{0,8})(:?)", text):
         rest = text[found.end():]
-        if len(rest) <= int(found.group(1)) and all(sign_of(ord(sign)) for sign in rest) and (found.group(2) or not rest):
+        if len(rest) <= int(found.group(1)) and all(is_sign(sign) for sign in rest) and (found.group(2) or not rest):
             if any(is_word(text[:found.start()] + "t0:" + ")" * nested) for nested in range(text.count("(") + 1)):
                 return True
     return False
@@ -322,8 +323,10 @@ class RefusedTest(HeldCase):
         self.assertEqual(hold(machine), data)
         # It goes on to an end.
         told = []
-        for event in completion(self.GRAMMAR, machine.validator):
-            told += machine.event(event)
+        for kind, state in machine.shape()[0][::-1]:
+            row = least_to(self.GRAMMAR, kind, state, list(self.GRAMMAR.automaton(kind)[0]))
+            for event in [*events_of(self.GRAMMAR, row), ("end", self.GRAMMAR.name_of(kind))]:
+                told += machine.event(event)
         self.assertIs(machine.wholly(), True)
         self.assertEqual(machine.kept(), 0)
         return told
@@ -355,8 +358,13 @@ class RefusedTest(HeldCase):
 
     def test_no_element_is_open(self):
         for number in (0, 2, 3, 1000):
-            self.check((number, (), None), True) if number == 0 else self.assertIs(
-                resume(self.GRAMMAR, self.PROGRAM, write_word((number, (), None))).wholly(), True)
+            machine = resume(self.GRAMMAR, self.PROGRAM, write_word((number, (), None)))
+            self.assertEqual((machine.wholly(), machine.depth(), machine.shape()), (number > 0, 0, ((), None)))
+            self.assertEqual(hold(machine), write_word((number, (), None)))
+        machine = resume(self.GRAMMAR, self.PROGRAM, write_word((0, (), None)))
+        self.assertEqual([row for event in events_in('<a x="v"/>') for row in machine.event(event)],
+                         [signs("<", 0), signs("v", 0), signs("|", 0), signs(">", 0)])
+        self.assertEqual(refused(self, NotDocument, machine.event, ("start", "a", ())).number, 2)
         self.check((1, (), None))
         for form in ((), 0, (0, ()), (0, (((), None),) * 3), ""):
             self.check((2, (), form))

@@ -4,6 +4,7 @@ import copy
 import random
 import unittest
 
+from hewstream.completions import start_event
 from hewstream.errors import TooMany
 from hewstream.facts import Facts
 from hewstream.insides import is_valid_inside, least_inside, rows_of, wide_cases
@@ -13,17 +14,20 @@ from program_oracle import STRINGS, all_documents, next_events, plain_meaning, r
 from samples import ODD_CONTENTS, Same
 from schema_oracle import random_schema, small_content
 from shorthand import facts_of, inside_in, refused, signs
-from hewstream.validator import inner_validator
+from hewstream.validator import Validator
 from test_facts import grammar_from
 
 
 def short_insides(facts, kind, most, width):
     """Valid insides of at most so many events, with wide cases and two signs; of each length from so many beginnings."""
-    rows = [([], inner_validator(facts.grammar, kind))]
+    own = grammar_from(facts.grammar.schema(), kind)
+    begun = Validator(own)
+    begun.take(start_event(own, kind))
+    rows = [([], begun)]
     for _ in range(most + 1):
         longer = []
         for events, at in rows[:width]:
-            for event in next_events(facts.grammar, at, lambda name: wide_cases(facts, name)):
+            for event in next_events(own, at, lambda name: wide_cases(facts, name)):
                 for sign in "ab" if event[0] == "char" else "a":
                     behind = at.copied()
                     behind.take(("char", sign) if event[0] == "char" else event)
