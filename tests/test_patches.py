@@ -4,7 +4,7 @@ import copy
 import random
 import unittest
 
-from hewstream.events import document_events, events_of, is_document, tree_of
+from hewstream.events import events_of, is_document, tree_of
 from hewstream.patches import apply_patch, exchanges_of, join_patches, undo_patch
 from program_oracle import random_document
 from hewstream.schemas import Grammar, is_schema
@@ -220,12 +220,6 @@ def exchanged(tree, exchanges, path=()):
     for where, index, many, new in sorted([row for row in exchanges if row[0] == path], key=lambda row: row[1], reverse=True):
         rows[index:index + many] = tree_of([("start", "z", ()), *new, ("end", "z")])[2]
     return name, attributes, tuple(rows)
-
-
-class EventsTest(unittest.TestCase):
-    def test_signs_of_pieces(self):
-        # The events of a document have no strings; should there be some, they stand for their signs.
-        self.assertEqual(exchanges_of(events_in("<a/>"), [(1, 1, [("signs", "xy")])]), [((), 0, 0, document_events([("signs", "xy")]))])
 
 
 if __name__ == "__main__":
