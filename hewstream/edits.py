@@ -177,7 +177,8 @@ def moment_behind(edited, marks):
     many = 1
     for key, node in nodes.items():
         inner = {}
-        for mode in used.get(key, []):
+        modes = used.get(key, [])
+        for mode in modes:
             if key >= free:
                 body = body_of(edited.program, mode, node.kind)
                 edited.bodies[key, mode] = settled(body, node.attributes)
