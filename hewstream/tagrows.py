@@ -101,10 +101,21 @@ def copied_row(row):
 
 
 def row_form(row):
-    """The row as a plain value."""
-    downs = [(segment, (start.name, start.attributes, start.place, start.last, start.number))
+    """The row as a plain value, which is as long for each row of the same tags that are not matched."""
+    ups = [(segment_form(segment), fragment, number) for segment, fragment, number in row.ups]
+    downs = [(segment_form(segment), (start.name, start.attributes, start.place, start.last, start.number))
              for segment, start in row.downs]
-    return tuple(row.ups), tuple(downs), row.segment, tuple(row.heights), row.events, row.fault
+    return tuple(ups), tuple(downs), segment_form(row.segment), tuple(row.heights), row.events, row.fault
+
+
+def segment_form(segment):
+    """The segment as a plain value; what is not there is told by numbers less than 0."""
+    table, outer = segment
+    told = tuple([slot if isinstance(slot, tuple) else (-1, slot) for slot in table])
+    if outer is None:
+        return told, None
+    sign, signs, ahead, letters, fault = outer
+    return told, (sign, signs, ahead, (letters + (-1, -1))[:2], (-1, -1) if fault is None else fault)
 
 
 def table_behind(first, second):
