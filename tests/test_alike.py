@@ -194,6 +194,15 @@ class LanesTest(CompareCase):
         # An own event between keeps them apart.
         self.alike('rule m a { each m ( b ) "-" each m ( c ) }' + both, 'rule m a { each m ( b ) "-" each m ( c ) }' + both)
 
+    def test_orders_with_other_modes(self):
+        # The modes of the one program give nothing in the other one.
+        one = 'rule m a { each m ( b ) each m ( c ) } rule m b { "b" } rule m c { "c" }'
+        self.differ(one, 'rule m a { each k ( b , c ) } rule k b { "b" } rule k c { "c" }')
+        self.differ(one, 'rule m a { each k ( c ) each d ( b ) } rule d b { "b" } rule k c { "c" }')
+        self.differ('rule m a { each m ( b ) "-" } rule m b { "b" }', 'rule m a { "-" each k ( b ) } rule k b { "b" }')
+        self.differ('rule m a { each m ( b ) "-" } rule m b { "b" }', 'rule m a { "-" each k ( b ) }')
+        self.alike(one, 'rule m a { each k ( b ) each d ( c ) } rule k b { "b" } rule d c { "c" }', (("a", "m", "m"), ("b", "m", "k"), ("c", "m", "d")))
+
     def test_orders_that_cannot_come(self):
         # The example: no b can come before an a.
         schema = "root r\nr = r : {}\na = a : empty\nb = b : empty\n"
@@ -277,7 +286,18 @@ class JudgeTest(unittest.TestCase):
         refused(self, TooMany, compare, facts, one)
         refused(self, TooMany, compare, one, facts)
         refused(self, TooMany, judge_meetings, one, facts, (("a", "m", "m"),))
+        # 10 choices of both attributes are a hundred cases; one string more is too many.
+        ifs = ['if @ s = "1" { "-" }', *[f'if @ s = "{number}" {{ }}' for number in range(2, 8)], *[f'if @ t = "{number}" {{ }}' for number in range(1, 8)]]
+        schema = "root a\na = a @s @t : empty\n"
+        first, second = facts_of(schema, "rule m a { " + " ".join(ifs) + " }"), facts_of(schema, 'rule m a { if @ s = "1" { "-" } if @ t { } }')
+        self.assertEqual(len(first.cases("a")), 100)
+        self.assertEqual(compare(first, second), ("alike", (("a", "m", "m"),)))
+        self.assertIs(judge_meetings(second, first, (("a", "m", "m"),)), True)
+        third = facts_of(schema, 'rule m a { if @ s = "1" { "-" } if @ t = "8" { } }')
+        refused(self, TooMany, compare, first, third)
+        refused(self, TooMany, judge_meetings, third, first, (("a", "m", "m"),))
         # Only types that are looked at count.
+        schema = "root a\na = a " + " ".join("@" + name for name in "stuv") + " : b?\nb = b : empty\n"
         away = facts_of(schema.replace("root a", "root r\nr = r : a*"), "rule m a { " + more + " }")
         self.assertEqual(compare(away, away), ("alike", (("r", "m", "m"),)))
 

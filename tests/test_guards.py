@@ -127,6 +127,23 @@ class WalkTest(GuardCase):
             told = self.walk(facts, output, events_in(text))
             self.assertEqual(told[:len(expected)], expected[:len(told)], text)
 
+    def test_shortest_over_several_elements(self):
+        # A q must come: by a d within the open b, or by a c behind it; which is shorter depends on how long they are.
+        rules = "rule m a { make p { each m ( b , c ) } } rule m b { each m ( d ) } rule m c { make q { } } rule m d { make q { } }"
+        output = grammar_of("root p\np = p : q\nq = q : empty\n")
+        for inner, outer, expected in (("empty", "e, e", "<d/></b></a>"), ("e, e", "empty", "</b><c/></a>"), ("e", "e, e", "<d><e/></d></b></a>"),
+                                       ("e, e, e", "e, e", "</b><c><e/><e/></c></a>")):
+            schema = f"root a\na = a : b, c?\nb = b : d?\nc = c : {outer}\nd = d : {inner}\ne = e : empty\n"
+            facts = facts_of(schema, rules)
+            begun = [("start", "a", ()), ("start", "b", ())]
+            whole = events_in("<a><b>" + expected)
+            guard = Guard(facts, output)
+            self.assertEqual(guard.completion(), whole)
+            for event in begun:
+                guard.take(event)
+            self.assertEqual(guard.completion(), whole[2:])
+            self.walk(facts, output, whole)
+
     def test_deep(self):
         facts = facts_of("root a\na = a : a?\n", "rule m a { make p { each m ( a ) } }")
         output = grammar_of("root p\np = p : q?\nq = q : p?\n")

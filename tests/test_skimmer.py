@@ -76,6 +76,12 @@ class WalkTest(SkimmerCase):
         told = self.check(facts, "<a><b><d/><e>x</e><e/></b><c>yz</c></a>", "..xxxxxxx......")
         self.assertEqual(told, [signs("d", 2), signs(".", 1), signs("-", 0), (("char", "y"), 11), (("char", "z"), 12)])
 
+    def test_places_of_later_events_of_the_least_inside(self):
+        facts = facts_of("root a\na = a : b, b\nb = b : d, e, d, c*\nc = c : chars\nd = d : empty\ne = e : d\n",
+                         'rule m a { each m ( b ) } rule m b { each m ( d , e ) } rule m d { "d" } rule m e { "e" each m ( d ) }')
+        told = self.check(facts, "<a><b><d/><e><d/></e><d/></b><b><d/><e><d/></e><d/><c>x</c></b></a>", "..xxxxxxxx..xxxxxxxxxxx..")
+        self.assertEqual([place for _, place in told], [2, 4, 5, 8, 12, 14, 15, 18])
+
     def test_leaves_early(self):
         facts = facts_of("root a\na = a : b, c\nb = b : d?\nc = c : d?\nd = d : empty\n",
                          'rule m a { each m ( b ) each m ( c ) } rule m b { "x" each d ( d ) "y" } rule m c { each n ( d ) "z" } rule d d { }')

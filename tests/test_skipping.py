@@ -265,6 +265,8 @@ class JudgeTest(unittest.TestCase):
                     ("char", 1, ()), ("b", 1, None), b"b"):
             self.assertIs(self.judge({**self.table, key: ()}), False, key)
             self.assertIs(self.judge({**self.table, key: ((2, ()),)}), False, key)
+            for many in (1, 2):
+                self.assertIs(self.judge({**self.table, key: ((2, ((),) * many),)}), False, key)
 
     def test_values_of_other_kinds(self):
         for value in [*ODD_CONTENTS, {}, list(self.table.items()), tuple(self.table.items()), [self.table]]:
