@@ -186,6 +186,11 @@ class TellTest(CutCase):
         # An event that cannot come is told ahead of it, or behind it.
         self.deep(grammar, "<a>" * 59 + "<b><a>", ("event", 59))
         self.deep(grammar, "<a>" * 60 + "<b>", ("deep", 181))
+        # The same where the root is ended.
+        self.deep(grammar, "<a>" * 61 + "<b/>" + "</a>" * 61, ("deep", 181))
+        self.deep(grammar, "<a>" * 60 + "<b/>" + "</a>" * 60, ("deep", 181))
+        self.deep(grammar, "<a>" * 59 + "<b/>" + "<a>" * 2 + "</a>" * 61, ("event", 59))
+        self.deep(grammar, "  <a>" + "<a>" * 60 + "<b/>" + "</a>" * 61, ("deep", 183))
         self.deep(grammar, "<a>" * 30 + "x<b/>" + "<a>" * 40, ("event", 31))
         self.deep(grammar, "<a>" * 30 + "<a/>" * 5 + "<a>" * 31, ("deep", 90 + 20 + 91))
 
@@ -208,7 +213,9 @@ class TellTest(CutCase):
                 pieces = ["<a>" * ahead, "</a>" * ups + "<a>" * downs, "<a>" * more + "</a>" * (more + downs), "</a>" * max(0, ahead - ups)]
                 self.deep(grammar, "".join(pieces), run_text(grammar, word("".join(pieces))))
                 parts = [Part(grammar, word(piece)) for piece in pieces]
-                part = join_parts(parts[0], join_parts(join_parts(parts[1], parts[2]), parts[3]))
+                middle = join_parts(parts[1], parts[2])
+                self.assertEqual(middle.form(), Part(grammar, word(pieces[1] + pieces[2])).form())
+                part = join_parts(parts[0], join_parts(middle, parts[3]))
                 self.assertEqual(part.form(), Part(grammar, word("".join(pieces))).form())
 
     def test_nothing(self):
